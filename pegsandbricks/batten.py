@@ -5,9 +5,20 @@ from pegsandbricks.rig import Rig
 BEGINS = 0
 PEG = 1
 PIECE = 2
+BRICK = 3
+HANG = 4
+BEST = 5
 
-# How many whole numbers stand behind the call's own number: begins, peg, piece, brick.
-COUNTS = (5, 1, 1, 2)
+# How many whole numbers stand behind the call's own number: begins, peg, piece, brick, hang, best, stack.
+# That of hang is how many numbers its row has; the row comes behind it.
+COUNTS = (5, 1, 1, 2, 1, 0, 0)
+
+
+def end_of_call(calls, start):
+    end = start + 1 + COUNTS[calls[start]]
+    if calls[start] == HANG:
+        return end + calls[start + 1]
+    return end
 
 
 def answer_call(rig, call, numbers):
@@ -17,8 +28,14 @@ def answer_call(rig, call, numbers):
         return rig.peg(numbers[0])
     if call == PIECE:
         return rig.piece(numbers[0])
-    # COUNTS has let no other call through, so this one is brick.
-    return rig.brick(numbers[0], numbers[1])
+    if call == BRICK:
+        return rig.brick(numbers[0], numbers[1])
+    if call == HANG:
+        return rig.hang(numbers[1:])
+    if call == BEST:
+        return rig.best()
+    # COUNTS has let no other call through, so this one is stack.
+    return rig.stack()
 
 
 def answers(calls):
@@ -27,9 +44,8 @@ def answers(calls):
     told = []
     start = 0
     while start < len(calls):
-        call = calls[start]
-        end = start + 1 + COUNTS[call]
-        answered = answer_call(rig, call, calls[start + 1:end])
+        end = end_of_call(calls, start)
+        answered = answer_call(rig, calls[start], calls[start + 1:end])
         told.append(len(answered))
         told.extend(answered)
         start = end

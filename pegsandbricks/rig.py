@@ -1,7 +1,11 @@
-"""One batten with its lines, pegs, pieces and bricks, and the calls that change it."""
+"""One batten with its lines, pegs, pieces and bricks, and the calls on it."""
+
+from pegsandbricks.hangings import best_hangings, fraction, heavier_load, holds, is_hanging, loads, scale
+from pegsandbricks.stacks import best_stack
 
 WRONG = -1
 FULL = -5
+NONE_HOLDS = -6
 
 MOST_LONG = 1000
 MOST_WEIGHT = 10000
@@ -58,7 +62,7 @@ class Rig:
         self.set_up(long, left, right, weight, bear)
         return [0]
 
-    # In each call below the wrong number is looked for first: of several refusals it is the one told first.
+    # In peg, piece and brick the wrong number is looked for first: of several refusals it is the one told first.
 
     def peg(self, place):
         if place > self.long or place in self.pegs:
@@ -74,3 +78,20 @@ class Rig:
         if not weighs_something(weight) or many > MOST_BRICKS:
             return [WRONG]
         return number_given(self.bricks, (weight, many), MOST_KINDS)
+
+    def hang(self, pegs):
+        if not is_hanging(self, pegs):
+            return [WRONG]
+        both = loads(self, pegs)
+        held = 1 if holds(self, pegs) else 0
+        return [held] + fraction(both[0], scale(self)) + fraction(both[1], scale(self))
+
+    def best(self):
+        found = best_hangings(self)
+        if found == []:
+            return [NONE_HOLDS]
+        earliest = found[0]
+        return [len(found)] + fraction(heavier_load(self, earliest), scale(self)) + earliest
+
+    def stack(self):
+        return best_stack(self.bricks, self.weight + sum(self.pieces))

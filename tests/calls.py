@@ -21,6 +21,18 @@ def brick(weight, many):
     return [3, weight, many]
 
 
+def hang(*pegs):
+    return [4, len(pegs), *pegs]
+
+
+def best():
+    return [5]
+
+
+def stack():
+    return [6]
+
+
 def written(calls):
     """The calls one behind another, as one list."""
     return [number for call in calls for number in call]
@@ -37,13 +49,23 @@ def taken_apart(told):
     return parts
 
 
-def ask(*calls):
-    """What each of the calls answers, where every one answers a single number."""
+def ask_rows(*calls):
+    """What each of the calls answers, a list for each."""
     parts = taken_apart(answers(written(calls)))
     if len(parts) != len(calls):
         raise AssertionError(f"{len(calls)} calls, {len(parts)} answers")
+    return parts
+
+
+def ask_last(*calls):
+    """What the last of the calls answers."""
+    return ask_rows(*calls)[-1]
+
+
+def ask(*calls):
+    """What each of the calls answers, where every one answers a single number."""
     numbers = []
-    for part in parts:
+    for part in ask_rows(*calls):
         if len(part) != 1:
             raise AssertionError(f"one number was due, not {part}")
         numbers.append(part[0])

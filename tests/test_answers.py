@@ -5,10 +5,12 @@ import io
 import unittest
 
 from pegsandbricks.batten import answers
-from tests.calls import HUGE, begins, brick, peg, piece, taken_apart, written
+from tests.calls import HUGE, begins, best, brick, hang, peg, piece, stack, taken_apart, written
 
-SOME_CALLS = [0, 10, 0, 10, 5, 100, 1, 10, 1, 10, 2, 7, 3, 4, 8, 3, 4, 9, 0, 0, 0, 0, 0, 0, 1, 3]
-SOME_ANSWERS = [1, 0, 1, 0, 1, -1, 1, 0, 1, 0, 1, -1, 1, -1, 1, 1]
+SOME_CALLS = [0, 10, 0, 10, 5, 100, 1, 10, 1, 10, 2, 7, 3, 4, 8, 3, 4, 9, 0, 0, 0, 0, 0, 0, 1, 3,
+              4, 1, 0, 4, 2, 0, 1, 5, 6]
+SOME_ANSWERS = [1, 0, 1, 0, 1, -1, 1, 0, 1, 0, 1, -1, 1, -1, 1, 1,
+                5, 1, 5, 2, 19, 2, 1, -1, 4, 1, 37, 5, 1, 4, 0, 3, 1, 3]
 
 
 class Untouchable(list):
@@ -28,6 +30,7 @@ class Form(unittest.TestCase):
             (peg(2), [1, 0]), (peg(3), [1, -1]),
             (piece(1), [1, 0]), (piece(0), [1, -1]),
             (brick(1, 0), [1, 0]), (brick(1, 9), [1, -1]),
+            (hang(), [5, 1, 0, 1, 0, 1]), (hang(0), [1, -1]), (best(), [3, 1, 0, 1]), (stack(), [3, 0, 0, 1]),
         )
         for calls, due in rows:
             with self.subTest(calls=calls):
